@@ -1,0 +1,1 @@
+"""Pagenook: pages of notes that point to one another."""
