@@ -16,3 +16,14 @@ def read_word(word):
 def split_up(text):
     # Blanks ahead, behind and side by side leave empty pieces, which are no words.
     return [read_word(piece) for piece in text.split(" ") if piece != ""]
+
+
+def tell_word(word):
+    inner = word[1]
+    if word[0] == "to":
+        return f"[{inner}]"
+    return inner
+
+
+def tell_text(words):
+    return " ".join([tell_word(word) for word in words])

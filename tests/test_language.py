@@ -49,6 +49,36 @@ def nodes_by_kind(path, kinds):
     return [node for node in nodes_of(path) if isinstance(node, kinds)]
 
 
+def tops_of(path):
+    return ast.parse(path.read_text(encoding="utf-8")).body
+
+
+def names_at_top(path):
+    defined = [node.name for node in tops_of(path) if isinstance(node, (ast.FunctionDef, ast.ClassDef))]
+    given = [node.targets[0].id for node in tops_of(path) if isinstance(node, ast.Assign)]
+    return defined + given
+
+
+def drawn_names(path):
+    """The files that one draws from, each with a name that it draws."""
+    rows = nodes_by_kind(path, ast.ImportFrom)
+    return [(row.module.removeprefix("pagenook."), alias.name) for row in rows for alias in row.names]
+
+
+def methods_of_package():
+    classes = [node for path in package_files() for node in nodes_by_kind(path, ast.ClassDef)]
+    return {part.name for node in classes for part in node.body if isinstance(part, ast.FunctionDef)} - DUNDERS
+
+
+def values_of_package():
+    nodes = [node for path in package_files() for node in nodes_by_kind(path, ast.Attribute)]
+    return {node.attr for node in nodes if isinstance(node.ctx, ast.Store)}
+
+
+def is_docstring(node):
+    return isinstance(node, ast.Expr) and isinstance(node.value, ast.Constant) and isinstance(node.value.value, str)
+
+
 def bound_names(path):
     names = [node.id for node in nodes_by_kind(path, ast.Name) if isinstance(node.ctx, ast.Store)]
     names += [node.arg for node in nodes_by_kind(path, ast.arg)]
@@ -65,7 +95,7 @@ class Language(unittest.TestCase):
 
     def test_the_modules_are_there(self):
         names = [path.name for path in package_files()]
-        for name in ["__init__.py", "errors.py", "near.py", "words.py"]:
+        for name in ["__init__.py", "day.py", "errors.py", "index.py", "near.py", "nook.py", "words.py"]:
             self.assertIn(name, names)
 
     def test_files(self):
@@ -117,6 +147,70 @@ class Language(unittest.TestCase):
 
         self.check_each(faults_of)
 
+    def test_names_are_drawn_from_the_file_that_defines_them(self):
+        def faults_of(path):
+            return [item for item in drawn_names(path) if item[1] not in names_at_top(PACKAGE / f"{item[0]}.py")]
+
+        self.check_each(faults_of)
+
+    def test_no_two_files_draw_from_one_another(self):
+        drawn = {path.stem: {module for module, name in drawn_names(path)} for path in package_files()}
+        while drawn:
+            free = [name for name in drawn if not drawn[name] & set(drawn)]
+            self.assertNotEqual(free, [], drawn)
+            drawn = {name: modules for name, modules in drawn.items() if name not in free}
+
+    def test_the_top_of_a_module(self):
+        kinds = (ast.ImportFrom, ast.FunctionDef, ast.ClassDef, ast.Assign)
+
+        def faults_of(path):
+            tops = [ast.dump(node) for node in tops_of(path) if not isinstance(node, kinds) and not is_docstring(node)]
+            names = names_at_top(path) + [name for module, name in drawn_names(path)]
+            return tops + [name for name in names if names.count(name) > 1]
+
+        self.check_each(faults_of)
+
+    def test_classes(self):
+        def faults_of(path):
+            classes = nodes_by_kind(path, ast.ClassDef)
+            faults = [node.name for node in classes if len(node.bases) > 1 or node.keywords]
+            faults += [node.name for node in classes if node.name not in names_at_top(path)]
+            parts = [part for node in classes for part in node.body if not is_docstring(part)]
+            return faults + [ast.dump(part) for part in parts if not isinstance(part, ast.FunctionDef)]
+
+        self.check_each(faults_of)
+
+    def test_own_methods_and_values(self):
+        methods, values = methods_of_package(), values_of_package()
+        self.assertEqual(methods & values, set())
+        taken = {name for kind in (str, int, list, dict, set, bytes) for name in dir(kind)}
+        self.assertEqual((methods | values) & taken, set())
+
+    def test_handlers(self):
+        own = set(names_at_top(PACKAGE / "errors.py"))
+
+        def faults_of(path):
+            handlers = nodes_by_kind(path, ast.ExceptHandler)
+            return [ast.dump(node.type) for node in handlers if getattr(node.type, "id", "") not in own]
+
+        self.check_each(faults_of)
+
+    def test_is_stands_beside_none_true_and_false(self):
+        def faults_of(path):
+            nodes = [node for node in nodes_by_kind(path, ast.Compare) if isinstance(node.ops[0], (ast.Is, ast.IsNot))]
+            return [ast.dump(node) for node in nodes if not isinstance(node.comparators[0], ast.Constant)]
+
+        self.check_each(faults_of)
+
+    def test_sets_are_not_kept(self):
+        def faults_of(path):
+            calls = [node for node in nodes_by_kind(path, ast.Call) if isinstance(node.func, ast.Name)]
+            used_at_once = [arg for node in calls if node.func.id in ("sorted", "len") for arg in node.args]
+            made = [node for node in calls if node.func.id in ("set", "frozenset")]
+            return [node.lineno for node in made if node not in used_at_once]
+
+        self.check_each(faults_of)
+
     def test_names_of_python(self):
         def faults_of(path):
             used = [node.id for node in nodes_by_kind(path, ast.Name)]
@@ -127,7 +221,8 @@ class Language(unittest.TestCase):
     def test_names_of_its_own(self):
         def faults_of(path):
             names = [name for name in bound_names(path) if name not in DUNDERS]
-            return [name for name in names if hasattr(builtins, name) or not re.fullmatch("[A-Za-z][A-Za-z0-9_]*", name)]
+            faults = [name for name in names if hasattr(builtins, name)]
+            return faults + [name for name in names if not re.fullmatch("[A-Za-z][A-Za-z0-9_]*", name)]
 
         self.check_each(faults_of)
 
